@@ -1,0 +1,1 @@
+"""An airport's ground: the tower, its vehicles, and the frames between them."""
