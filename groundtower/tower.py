@@ -74,6 +74,16 @@ class Tower:
         vehicle.behind = None
         return 1
 
+    def at(self, v):
+        if v not in self.vehicles:
+            return WRONG
+        return self.vehicles[v].piece
+
+    def left(self, v):
+        if v not in self.vehicles:
+            return WRONG
+        return len(self.vehicles[v].way)
+
     # Gives back the vehicles that are told to go, each with its frame.
     def tick(self):
         self.ticks += 1

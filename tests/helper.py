@@ -38,6 +38,34 @@ def tick():
     return [6]
 
 
+def at(v):
+    return [7, v]
+
+
+def left(v):
+    return [8, v]
+
+
+def end_start(end, v, piece, number):
+    return [9, end, v, piece, number]
+
+
+def end_heard(end, frame):
+    return [10, end, len(frame)] + list(frame)
+
+
+def end_away(end):
+    return [11, end]
+
+
+def end_tick(end):
+    return [12, end]
+
+
+def end_at(end):
+    return [13, end]
+
+
 def chain(n):
     """The pairs of n pieces in a row."""
     return [(k, k + 1) for k in range(n - 1)]
@@ -76,13 +104,27 @@ def go(v, piece, number):
 
 
 def told(*things):
-    """A tick's whole answer."""
+    """A tower's tick's whole answer."""
     return [0, len(things)] + [number for thing in things for number in thing]
+
+
+def sent(v, piece, number):
+    """The whole answer of an end that sends the tower a frame of kind 2."""
+    return [0, 1, 1] + frame(2, v, piece, number)
+
+
+def goes(piece):
+    """The whole answer of an end that tells its vehicle to go to a piece."""
+    return [1, 1, 2, piece]
+
+
+def flat(calls):
+    return [number for call in calls for number in call]
 
 
 def run(*calls):
     """The answers to the calls, a list each."""
-    row = answers([number for call in calls for number in call])
+    row = answers(flat(calls))
     split = []
     place = 0
     while place < len(row):
@@ -140,23 +182,83 @@ def come_clear_soon(state):
     return True
 
 
+def right(given, kind):
+    """Whether a frame is right for whom it's come to."""
+    number = int.from_bytes(bytes(given[4:8]), "little")
+    zeros = given[3] == 0 and given[8:12] == [0] * 4
+    return given == with_check(given[:12]) and given[0] == kind and given[1] <= 63 and number != 0 and zeros
+
+
+class ReferenceEnd:
+    """A vehicle's end by the document's words."""
+
+    def __init__(self, v, piece, number):
+        self.v, self.piece, self.number = v, piece, number
+        self.going = False
+        self.ticks = 0
+
+    def vg_heard(self, given):
+        number = int.from_bytes(bytes(given[4:8]), "little")
+        if not right(given, 1) or given[1] != self.v:
+            return -71
+        if number == self.number + 1 and not self.going:
+            self.number, self.piece, self.going = number, given[2], True
+            return goes(self.piece)
+        if number == self.number and not self.going:
+            return sent(self.v, self.piece, self.number)
+        return 0
+
+    def vg_away(self):
+        if not self.going:
+            return -2
+        self.going = False
+        return sent(self.v, self.piece, self.number)
+
+    def vg_tick(self):
+        self.ticks += 1
+        if not self.going and self.number != 0 and self.ticks % 10 == 0:
+            return sent(self.v, self.piece, self.number)
+        return 0
+
+    def vg_at(self):
+        return 256 + self.piece if self.going else self.piece
+
+
 class Reference:
-    """The tower by the document's words."""
+    """The tower and the ends by the document's words."""
+
+    NAMES = """tg_start tg_enter tg_leave tg_give tg_drop tg_heard tg_tick tg_at tg_left
+        vg_start vg_heard vg_away vg_tick vg_at""".split()
 
     def __init__(self, clear=come_clear):
         self.clear = clear
         self.held_back = 0
+        self.ends = {}
 
     def call(self, call):
-        names = ("tg_start", "tg_enter", "tg_leave", "tg_give", "tg_drop", "tg_heard", "tg_tick")
-        answer = getattr(self, names[call[0]])(*self.arguments(call))
+        whose = self.ends[call[1]] if call[0] > 9 else self
+        answer = getattr(whose, self.NAMES[call[0]])(*self.arguments(call))
         return answer if isinstance(answer, list) else [answer, 0]
 
     @staticmethod
     def arguments(call):
         if call[0] in (0, 3):
             return call[1], call[3:]
-        return [call[2:]] if call[0] == 5 else call[1:]
+        if call[0] in (5, 10):
+            return [call[-16:]]
+        return call[2:] if call[0] > 10 else call[1:]
+
+    def vg_start(self, end, v, piece, number):
+        if v > 63 or piece > 255 or number > 2147483647:
+            return -22
+        self.ends[end] = ReferenceEnd(v, piece, number)
+        return 0
+
+    def tg_at(self, v):
+        return self.at[v] if v in self.at else -22
+
+    def tg_left(self, v):
+        return len(self.way[v]) if v in self.at else -22
 
     def goal(self, v):
         return self.way[v][-1] if self.way[v] else self.at[v]
@@ -216,8 +318,7 @@ class Reference:
 
     def tg_heard(self, given):
         number = int.from_bytes(bytes(given[4:8]), "little")
-        zeros = given[3] == 0 and given[8:12] == [0] * 4
-        if given != with_check(given[:12]) or given[0] != 2 or given[1] > 63 or number == 0 or not zeros:
+        if not right(given, 2):
             return -71
         v = given[1]
         if v in self.at and self.behind[v] is not None and self.at[v] == given[2] and self.number[v] == number:

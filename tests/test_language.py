@@ -108,6 +108,26 @@ class FormTest(unittest.TestCase):
                 self.assertIn(node.attr, own | OWN_METHODS, where)
                 self.assertNotIn(node.attr, NOT_NAMES, where)
 
+    def test_no_name_is_a_method_here_and_a_value_there(self):
+        methods = {part.name for where, node in self.each_node() if isinstance(node, ast.ClassDef)
+                   for part in node.body}
+        kept = {node.attr for where, node in self.each_node()
+                if isinstance(node, ast.Attribute) and isinstance(node.ctx, ast.Store)}
+        self.assertEqual(methods & kept, set())
+        for name in methods | kept:
+            for own in (str, int, list, dict, set, bytes):
+                self.assertFalse(name in dir(own) and name not in ("__init__",), name)
+
+    def test_no_local_is_called_like_a_class_or_an_import(self):
+        for path in FILES:
+            nodes = list(ast.walk(ast.parse(path.read_text())))
+            taken = {alias.name for node in nodes if isinstance(node, ast.ImportFrom) for alias in node.names}
+            taken |= {node.name for node in nodes if isinstance(node, ast.ClassDef)}
+            for node in nodes:
+                if isinstance(node, ast.FunctionDef):
+                    inner = {name for part in ast.walk(node) for name in bound_names(part) if part is not node}
+                    self.assertEqual(inner & taken, set(), f"{path.name}:{node.lineno}")
+
     def test_imports(self):
         drawn = {}
         for path in FILES:

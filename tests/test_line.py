@@ -4,8 +4,9 @@ import random
 import unittest
 
 from groundtower.ground import answers
-from helper import (Reference, chain, come_clear, come_clear_soon, drop, enter, frame, give, go, leave, run, stands,
-                    start, tick, told)
+from helper import (TOP, Reference, at, chain, come_clear, come_clear_soon, drop, end_at, end_away, end_heard,
+                    end_start, end_tick, enter, flat, frame, give, go, leave, left, run, sent, stands, start, tick,
+                    told)
 
 
 class Untouched(list):
@@ -16,10 +17,6 @@ class Untouched(list):
 
     append = extend = insert = pop = remove = clear = sort = reverse = refuse
     __setitem__ = __delitem__ = __iadd__ = __imul__ = refuse
-
-
-def flat(calls):
-    return [number for call in calls for number in call]
 
 
 def by_the_words(calls, clear=come_clear):
@@ -38,6 +35,27 @@ class WrittenTest(unittest.TestCase):
         self.assertEqual(answers(calls), [2, 0, 0,  2, 0, 0,  2, 0, 0,  20, 0, 1, 0, 7] + frame(1, 7, 1, 1)
                          + [2, -2, 0,  2, 0, 0,  2, -2, 0])
 
+    def test_the_ends_word_by_word(self):
+        calls = [9, 2, 7, 5, 0,  13, 2,  11, 2,  10, 2, 16] + frame(1, 7, 6, 1) + [13, 2,  12, 2,  11, 2,  13, 2]
+        calls += [10, 2, 16] + frame(1, 7, 6, 1) + [10, 2, 16] + [0] * 16 + [9, 2, 64, 0, 0]
+        self.assertEqual(answers(calls), [2, 0, 0,  2, 5, 0,  2, -2, 0,  4, 1, 1, 2, 6,  2, 262, 0,  2, 0, 0]
+                         + [19, 0, 1, 1] + frame(2, 7, 6, 1) + [2, 6, 0] + [19, 0, 1, 1] + frame(2, 7, 6, 1)
+                         + [2, -71, 0,  2, -22, 0])
+
+    def test_the_questions_word_by_word(self):
+        calls = [0, 3, 4, 0, 1, 1, 2,  1, 7, 0,  3, 7, 2, 1, 2,  7, 7,  8, 7,  7, 8,  8, TOP]
+        self.assertEqual(answers(calls)[9:], [2, 0, 0,  2, 2, 0,  2, -22, 0,  2, -22, 0])
+
+    def test_both_mixed(self):
+        calls = [end_start(0, 1, 0, 0), start(3, chain(3)), enter(1, 0), end_at(0), give(1, [1]), end_tick(0), tick(),
+                 end_start(1, 2, 2, 2), end_heard(0, frame(1, 1, 1, 1)), at(1), end_at(0), end_away(0),
+                 stands(1, 1, 1), end_at(1), left(1)]
+        self.assertEqual(answers(flat(calls)), by_the_words(calls))
+
+    def test_numbers_that_are_no_calls(self):
+        for number in (-1, 14, 15):
+            self.assertRaises(ValueError, answers, [0, 1, 0, number, 0, 0, 0])
+
     def test_two_told_in_one_tick(self):
         calls = flat([start(4, [(0, 1), (2, 3)]), enter(1, 0), enter(2, 2), give(1, [1]), give(2, [3]), tick()])
         self.assertEqual(answers(calls)[15:], [38, 0, 2] + go(1, 1, 1) + go(2, 3, 1))
@@ -50,7 +68,9 @@ class WrittenTest(unittest.TestCase):
         self.assertEqual(answers([0, 256, 0]), [2, 0, 0])
 
     def test_answers_are_a_list_of_whole_numbers(self):
-        calls = flat([start(4, chain(4)), enter(1, 0), give(1, [1]), tick(), stands(1, 1, 1), leave(1), leave(1)])
+        calls = flat([start(4, chain(4)), enter(1, 0), give(1, [1]), tick(), stands(1, 1, 1), at(1), left(1), leave(1),
+                      leave(1), end_start(0, 1, 0, 0), end_heard(0, frame(1, 1, 1, 1)), end_at(0), end_away(0),
+                      end_at(0), end_away(0), end_tick(0)])
         given = answers(calls)
         self.assertIs(list, type(given))
         self.assertEqual({type(number) for number in given}, {int})
@@ -58,7 +78,10 @@ class WrittenTest(unittest.TestCase):
 
 class KeptTest(unittest.TestCase):
     CALLS = [start(6, chain(6)), enter(1, 0), give(1, [1, 2, 3]), tick(), stands(1, 1, 1), tick(), enter(2, 5),
-             give(2, [4, 3]), give(2, [4]), tick(), drop(1), leave(1), stands(1, 2, 2), leave(1), leave(1)]
+             give(2, [4, 3]), give(2, [4]), tick(), drop(1), leave(1), stands(1, 2, 2), leave(1), leave(1), at(2),
+             left(2), end_start(0, 1, 0, 0), end_start(1, 2, 5, 1), end_heard(0, frame(1, 1, 1, 1)), end_at(0),
+             end_away(0), end_heard(0, frame(1, 1, 1, 1)), end_heard(1, frame(1, 1, 1, 1)), end_at(0)]
+    CALLS += [end_tick(1)] * 10 + [end_start(0, 64, 0, 0), end_away(0), tick()]
 
     def test_what_is_handed_in_stays(self):
         calls = flat(self.CALLS)
@@ -71,6 +94,12 @@ class KeptTest(unittest.TestCase):
         answers(flat([start(3, chain(3)), enter(1, 2), give(1, [1]), tick()]))
         self.assertEqual(first, by_the_words(self.CALLS))
         self.assertEqual(answers(flat(self.CALLS)), first)
+
+    def test_no_end_is_kept(self):
+        calls = flat([end_start(0, 1, 2, 3)] + [end_tick(0)] * 9)
+        self.assertEqual([answers(calls) for _ in range(3)], [[2, 0, 0] * 10] * 3)
+        again = [end_start(0, 1, 2, 3), end_tick(0), end_at(0), end_away(0)]
+        self.assertEqual(run(*again), [[0, 0], [0, 0], [2, 0], [-2, 0]])
 
     def test_what_is_given_back_is_ones_own(self):
         first = answers(flat(self.CALLS))
@@ -128,6 +157,18 @@ class LargeTest(unittest.TestCase):
         self.assertEqual(rows[4:122], [[0, 0]] * 118)
         again = [told(go(0, 0, 1)) if k % 10 == 0 else told() for k in range(2, 480)]
         self.assertEqual(rows[122:], again)
+
+    def test_600_ticks_of_an_end(self):
+        rows = run(end_start(2, 63, 255, 1), *[end_tick(2)] * 599)
+        self.assertEqual(rows, [[0, 0]] + [sent(63, 255, 1) if k % 10 == 0 else [0, 0] for k in range(1, 600)])
+
+    def test_a_list_of_almost_30000(self):
+        wide = start(256, [(k, (k + step) % 256) for k in range(256) for step in (1, 16, 37, 101)])
+        calls = [end_start(0, 5, 0, 0), enter(5, 0), give(5, [1, 17]), tick(), end_heard(0, frame(1, 5, 1, 1)), at(5)]
+        calls = (calls[:1] + [wide] + calls[1:]) * 14
+        self.assertGreater(len(flat(calls)), 29000)
+        self.assertLess(len(flat(calls)), 30000)
+        self.assertEqual(answers(Untouched(flat(calls))), by_the_words(calls))
 
     def test_a_large_line_by_the_words(self):
         rng = random.Random(7)

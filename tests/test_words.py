@@ -1,9 +1,11 @@
-"""Promises 1 to 5 together: lines by chance, with much in one another's way, against the document's words."""
+"""Promises 1 to 9 together: lines by chance, with much in one another's way, against the document's words."""
 
 import random
 import unittest
 
-from helper import Reference, come_clear, come_clear_soon, drop, enter, frame, give, heard, leave, run, start, tick
+from groundtower.ground import answers
+from helper import (TOP, Reference, at, come_clear, come_clear_soon, drop, end_at, end_away, end_heard, end_start,
+                    end_tick, enter, flat, frame, give, heard, leave, left, run, start, tick)
 
 
 class Chance:
@@ -20,11 +22,12 @@ class Chance:
         answer = self.tower.call(call)
         self.calls.append(call)
         self.wanted.append(answer)
-        for k in range(answer[1]):
-            thing = answer[2 + 18 * k:20 + 18 * k]
-            self.air.append(frame(2, thing[1], thing[4], thing[6]))
-            if self.rng.random() < 0.1:
-                self.air.append(thing[2:])
+        if call[0] == 6:
+            for k in range(answer[1]):
+                thing = answer[2 + 18 * k:20 + 18 * k]
+                self.air += [thing[2:], frame(2, thing[1], thing[4], thing[6])]
+        elif answer[1:3] == [1, 1]:
+            self.air.append(answer[3:])
 
     def begin(self):
         # A track with stands beside it, and a few pairs more: most ways meet on the track.
@@ -53,17 +56,39 @@ class Chance:
             way.append(self.rng.randrange(self.tower.n + 1))
         return way
 
-    def some_frame(self):
-        sent = list(self.rng.choice(self.air[-8:]))
+    def some_frame(self, kind, v=None):
+        """Mostly one of the last of that kind, and for that vehicle."""
+        apt = [sent for sent in self.air if sent[0] == kind and v in (None, sent[1])]
+        sent = list(self.rng.choice(apt[-4:] if apt and self.rng.random() < 0.9 else self.air[-8:]))
         if self.rng.random() < 0.05:
             sent[self.rng.randrange(16)] ^= 1 << self.rng.randrange(8)
         return sent
 
+    def step_of_end(self):
+        end = self.rng.randrange(3)
+        kinds = "start heard away tick at".split()
+        kind = self.rng.choices(kinds, (4, 40, 20, 30, 10))[0] if end in self.tower.ends else "start"
+        if kind == "start":
+            v = self.some_vehicle(False)
+            piece = self.rng.choice((self.tower.at.get(v, 255), 255, 256))
+            number = self.tower.number[v % 64]
+            self.say(end_start(end, v, piece, self.rng.choice((number, number, 0, 2147483647, 2147483648, TOP))))
+        elif kind == "heard":
+            self.say(end_heard(end, self.some_frame(1, self.tower.ends[end].v)))
+        else:
+            self.say({"away": end_away, "tick": end_tick, "at": end_at}[kind](end))
+
     def step(self):
+        if self.rng.random() < 0.3:
+            self.step_of_end()
+        else:
+            self.step_of_tower()
+
+    def step_of_tower(self):
         """By turns mostly ways are given, and mostly vehicles move, so that many are under way at once."""
-        giving = len(self.calls) // 25 % 2 == 0
-        kinds = "enter leave give drop heard tick".split()
-        kind = self.rng.choices(kinds, (40, 5, 60, 4, 3, 2) if giving else (3, 1, 6, 1, 45, 45))[0]
+        giving = len(self.calls) // 40 % 2 == 0
+        kinds = "enter leave give drop heard tick at left".split()
+        kind = self.rng.choices(kinds, (40, 5, 60, 4, 3, 2, 1, 1) if giving else (3, 1, 6, 1, 45, 45, 3, 3))[0]
         v = self.some_vehicle(kind == "enter")
         if kind == "enter":
             self.say(enter(v, self.rng.randrange(self.tower.n + 1)))
@@ -74,7 +99,9 @@ class Chance:
         elif kind == "drop":
             self.say(drop(v))
         elif kind == "heard":
-            self.say(heard(self.some_frame()))
+            self.say(heard(self.some_frame(2)))
+        elif kind in ("at", "left"):
+            self.say({"at": at, "left": left}[kind](v))
         elif self.rng.random() < 0.99:
             self.say(tick())
         else:
@@ -84,20 +111,43 @@ class Chance:
 class WordsTest(unittest.TestCase):
     def test_lines_by_chance(self):
         seen = set()
+        told = set()
         held_back = 0
         for seed in range(300):
             chance = Chance(seed)
             chance.begin()
-            while len(chance.calls) < 300:
+            while len(chance.calls) < 400:
                 chance.step()
             self.assertEqual(run(*chance.calls), chance.wanted, seed)
             held_back += chance.tower.held_back
-            seen |= {(call[0], answer[0]) for call, answer in zip(chance.calls, chance.wanted) if answer[0] < 2}
+            seen |= {(call[0], min(answer[0], 2)) for call, answer in zip(chance.calls, chance.wanted)}
+            told |= {(call[0], answer[2]) for call, answer in zip(chance.calls, chance.wanted) if answer[1]}
         # What the lines are worth: each answer of each call came up, and rings were kept from closing.
         every = {(0, 0), (1, -22), (1, -2), (1, -11), (1, 0), (2, -22), (2, -2), (2, 0), (3, -22), (3, -2), (3, -11),
-                 (3, 0), (4, -22), (4, -2), (4, -11), (4, 0), (5, -71), (5, 0), (5, 1), (6, 0)}
+                 (3, 0), (4, -22), (4, -2), (4, -11), (4, 0), (5, -71), (5, 0), (5, 1), (6, 0), (7, -22), (7, 2),
+                 (8, -22), (8, 0), (8, 2), (9, -22), (9, 0), (10, -71), (10, 0), (10, 1), (11, -2), (11, 0), (12, 0),
+                 (13, 0), (13, 2)}
         self.assertLessEqual(every, seen)
+        self.assertEqual(told, {(6, 0), (10, 1), (10, 2), (11, 1), (12, 1)})
         self.assertGreater(held_back, 500)
+
+
+class LargeTest(unittest.TestCase):
+    def test_600_calls_of_all_fourteen_kinds(self):
+        for seed in range(1000, 1020):
+            chance = Chance(seed)
+            chance.begin()
+            while len(chance.calls) < 599:
+                chance.step()
+            chance.begin()
+            counts = [sum(call[0] == kind for call in chance.calls) for kind in range(14)]
+            self.assertEqual(sum(counts), 600)
+            self.assertGreater(min(counts), 1, counts)
+            calls = flat(chance.calls)
+            row = answers(calls)
+            self.assertEqual(calls, flat(chance.calls))
+            self.assertEqual(row, [number for answer in chance.wanted for number in [len(answer)] + answer])
+            self.assertEqual(answers(calls), row)
 
 
 class ReferenceTest(unittest.TestCase):
